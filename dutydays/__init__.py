@@ -1,0 +1,1 @@
+"""Duties: what two parties have agreed, and what becomes of it day by day."""
