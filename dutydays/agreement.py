@@ -7,6 +7,7 @@ A head is one of these without its C and D, just as the numbers tell it.
 Every walk is a loop: how deep an agreement is nested depends on what is handed in.
 """
 
+BREACH = 1
 MUST = 2
 MAY = 4
 BOTH = 5
@@ -108,6 +109,26 @@ def taken_apart(agreement):
         else:
             pieces.append(part)
     return pieces
+
+
+def numbers_of(agreement):
+    """The numbers that tell the agreement; agreement_of undoes it."""
+    numbers = []
+    ahead = [agreement]
+    while len(ahead) > 0:
+        part = ahead.pop()
+        if PART_COUNTS[part[0]] == 0:
+            numbers.extend(part)
+        else:
+            # C and D are the last two of whatever has them.
+            numbers.extend(part[:-2])
+            ahead.append(part[-1])
+            ahead.append(part[-2])
+    return numbers
+
+
+def is_in_breach(agreement, party):
+    return (BREACH, party) in taken_apart(agreement)
 
 
 def is_duty(part):

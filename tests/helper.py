@@ -38,6 +38,21 @@ def day(a, b):
 
 
 STANDS = [3]
+WHO = [4]
+LEFT = [7]
+
+
+def safe(p):
+    return [5, p]
+
+
+def today(p):
+    return [6, p]
+
+
+def doing(p, choice, other=0):
+    """The day on which party p makes this choice and the other party the other."""
+    return day(choice, other) if p == 0 else day(other, choice)
 
 
 def ask(*calls):

@@ -3,7 +3,7 @@ import sys
 import unittest
 
 import dutydays.agreed
-from helper import OVER, STANDS, add, agree, both, breach, day, may, must, mustnt
+from helper import LEFT, OVER, STANDS, WHO, add, agree, both, breach, day, may, must, mustnt, safe, today
 
 answers = dutydays.agreed.answers
 
@@ -11,7 +11,9 @@ MUST = must(0, 0, 2, OVER, breach(0))
 MAY = may(1, 1, 4, OVER, OVER)
 
 SOME_CALLS = (agree(both(MUST, MAY)) + STANDS + day(0, 0) + add([5, 0]) + day(4, 0) + STANDS
-              + add(MUST) + agree([]) + day(1, 2) + STANDS + agree([1000] * 100))
+              + add(MUST) + agree([]) + day(1, 2) + STANDS + agree([1000] * 100)
+              + WHO + add(both(MUST, breach(1))) + WHO + safe(0) + safe(1) + safe(2) + today(0) + today(1) + LEFT
+              + add(may(0, 0, 5, OVER, OVER)) + today(0))
 
 
 class ReadOnly(list):
@@ -39,7 +41,18 @@ class Form(unittest.TestCase):
              1, -1,
              2, 2, 1,
              1, 0,
-             1, -1])
+             1, -1,
+             2, -1, -1,
+             1, 3,
+             2, -1, 2,
+             1, 1,
+             1, 0,
+             1, -2,
+             1, 0,
+             1, -6,
+             11, 10, 5, 2, 0, 0, 2, 0, 1, 0, 1, 1,
+             1, 6,
+             1, -5])
 
     def test_each_call_alone(self):
         self.assertEqual(answers([0, 1, 0]), [1, 0])
@@ -49,6 +62,16 @@ class Form(unittest.TestCase):
         self.assertEqual(answers([2, 0, 0]), [2, 1, 1])
         self.assertEqual(answers([2, 1000, 0]), [1, -1])
         self.assertEqual(answers([3]), [1, 0])
+        self.assertEqual(answers([4]), [2, -1, -1])
+        self.assertEqual(answers([5, 0]), [1, 1])
+        self.assertEqual(answers([5, 1000]), [1, -2])
+        self.assertEqual(answers([6, 1]), [1, 0])
+        self.assertEqual(answers([6, 2]), [1, -2])
+        self.assertEqual(answers([7]), [2, 1, 0])
+
+    def test_each_call_has_its_own_numbers_alone(self):
+        # What p is looks like a call's number, and is none.
+        self.assertEqual(answers([5, 3, 3, 6, 7, 7, 5, 1, 4]), [1, -2, 1, 0, 1, -2, 2, 1, 0, 1, 1, 2, -1, -1])
 
     def test_an_agreement_ends_where_its_count_says(self):
         # The numbers behind would make it whole, or are too many: neither is looked at.
@@ -92,8 +115,9 @@ class NothingIsKept(unittest.TestCase):
         self.assertIsNot(answers(calls), first)
 
     def test_begins_anew_each_time(self):
-        answers(agree(MUST) + day(0, 0))
-        self.assertEqual(answers(STANDS + day(0, 0)), [1, 0, 2, 1, 1])
+        answers(agree(both(MUST, breach(1))) + day(0, 0) + safe(0) + today(1) + WHO)
+        self.assertEqual(answers(STANDS + WHO + LEFT + safe(1) + today(1) + day(0, 0)),
+                         [1, 0, 2, -1, -1, 2, 1, 0, 1, 1, 1, 0, 2, 1, 1])
 
     def test_a_list_given_back_may_be_changed(self):
         first = answers(SOME_CALLS)
@@ -120,7 +144,19 @@ class CallsWithinOneAnother(unittest.TestCase):
         while len(boths) + 3 <= 100:
             boths = both(boths, breach(1))
             right = both(breach(0), right)
-        calls = (add(duties) + add(boths) + add(right)) * 18 + STANDS + (day(0, 0) + STANDS) * 2
+        self.few((add(duties) + add(boths) + add(right)) * 17 + STANDS + WHO + LEFT + (day(0, 0) + STANDS + LEFT) * 2)
+
+    def test_stay_few_however_deep_the_look_ahead(self):
+        deep = must(0, 0, 0, OVER, breach(0))
+        while len(deep) + 3 <= 80:
+            deep = both(deep, breach(1))
+        for _ in range(4):
+            deep = may(1, 0, 0, OVER, deep)
+        given = self.few(add(deep) * 54 + safe(0) + today(0) + safe(1) + LEFT + day(0, 0) + today(0))
+        self.assertEqual(given[:2 * 57], [1, 5] * 54 + [1, 1, 1, 0, 1, 1])
+        self.assertEqual(given[-5:], [2, 1, 0, 1, 0])
+
+    def few(self, calls):
         wanted = answers(calls)
         limit = sys.getrecursionlimit()
         # Far fewer than the 60 adds and than the 49 boths that are nested here.
@@ -130,6 +166,7 @@ class CallsWithinOneAnother(unittest.TestCase):
         finally:
             sys.setrecursionlimit(limit)
         self.assertEqual(given, wanted)
+        return given
 
 
 if __name__ == "__main__":

@@ -1,6 +1,6 @@
 import unittest
 
-from helper import OVER, STANDS, add, agree, ask, both, breach, day, last, may, must, mustnt
+from helper import OVER, STANDS, add, agree, ask, both, breach, day, doing, last, may, must, mustnt
 
 DUTIES = (must, mustnt, may)
 
@@ -9,11 +9,6 @@ THEN_DONE = may(0, 0, 8, OVER, OVER)
 THEN_UNDONE = may(1, 1, 9, OVER, OVER)
 DONE = [1, 2, 0, 0, 8]
 UNDONE = [1, 2, 1, 1, 9]
-
-
-def doing(p, choice, other=0):
-    """The day on which party p makes this choice and the other party the other."""
-    return day(choice, other) if p == 0 else day(other, choice)
 
 
 class OneDuty(unittest.TestCase):

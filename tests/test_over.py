@@ -1,5 +1,4 @@
-"""Nothing that's over stands beside anything: agree, add, day and stands answer alike either way, so the
-module beneath them is asked."""
+"""Nothing that's over stands beside anything: the module beneath the calls is asked, as test_left asks left."""
 
 import unittest
 
